@@ -1,0 +1,1 @@
+"""Where turned screens of dots come back together."""
