@@ -3,7 +3,8 @@
 A lattice (a, b) holds just the multiples of the complex number a + b i by whole
 complex numbers. So lattices are worked with as such numbers, pairs (x, y) of whole
 numbers: the places that two lattices share are the multiples of both, and these are
-the multiples of their least common multiple.
+the multiples of their least common multiple. The sums of places of two lattices are
+the multiples of their greatest common divisor.
 """
 
 
@@ -76,6 +77,14 @@ def common_of(u, v):
     return upright(quotient(times(u, v), greatest_divisor(u, v)))
 
 
+def joint_of(u, v):
+    return upright(greatest_divisor(u, v))
+
+
+def told_lattice(lattice):
+    return answer(area(lattice), [lattice[0], lattice[1]])
+
+
 def common(z):
     """The lattice of the places that all screens of z have: [area, 0, 2, p, q], or [-1, 0, 0]."""
     screens = screens_of(z)
@@ -84,4 +93,15 @@ def common(z):
     lattice = (1, 0)
     for screen in screens:
         lattice = common_of(lattice, screen)
-    return answer(area(lattice), [lattice[0], lattice[1]])
+    return told_lattice(lattice)
+
+
+def joint(z):
+    """The lattice of all sums of places, one of each screen of z: [area, 0, 2, p, q], or [-1, 0, 0]."""
+    screens = screens_of(z)
+    if len(screens) == 0:
+        return refusal(-1)
+    lattice = screens[0]
+    for screen in screens:
+        lattice = joint_of(lattice, screen)
+    return told_lattice(lattice)

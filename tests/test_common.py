@@ -1,48 +1,11 @@
 """Promise 1: common."""
 
-import contextlib
-import io
 import itertools
 import unittest
 
 from screenbeats.beats import common
-
-REFUSED = [-1, 0, 0]
-HUGE = 18446744073709551615
-SCREENS = [(a, b) for a in range(1, 9) for b in range(0, 9) if a * a + b * b <= 64]
-
-
-def told(screens):
-    return [number for screen in screens for number in screen]
-
-
-def places(a, b, radius):
-    """The places i (a, b) + j (-b, a) with x and y from -radius to radius."""
-    # i is (a x + b y) / n and j is (a y - b x) / n, so none lies outside this.
-    most = radius * (a + b) // (a * a + b * b)
-    turns = range(-most, most + 1)
-    found = set()
-    for i in turns:
-        for j in turns:
-            x, y = i * a - j * b, i * b + j * a
-            if abs(x) <= radius and abs(y) <= radius:
-                found.add((x, y))
-    return found
-
-
-def on_lattice(a, b, x, y):
-    n = a * a + b * b
-    return (a * x + b * y) % n == 0 and (a * y - b * x) % n == 0
-
-
-class Watched(list):
-    """A list that can't be changed, for a while either."""
-
-    def refuse(self, *args, **kwargs):
-        raise AssertionError("z was changed")
-
-    __setitem__ = __delitem__ = __iadd__ = __imul__ = refuse
-    append = clear = extend = insert = pop = remove = reverse = sort = refuse
+from tests.helper import REFUSED, SCREENS, SOME_Z, ByItself, RefusesOtherScreens
+from tests.helper import area, lattice_told, on_lattice, places, told
 
 
 class Ordinary(unittest.TestCase):
@@ -80,24 +43,10 @@ class Ordinary(unittest.TestCase):
             self.check([a, b, a, b], own)
             self.check([a, b, a, b, a, b], own)
 
-    def test_answer_is_a_list_of_whole_numbers(self):
-        for z in ([1, 0, 1, 0], [2, 1, 1, 2, 1, 1], [], [1, 0]):
-            given = common(z)
-            self.assertIs(type(given), list)
-            self.assertEqual({type(number) for number in given}, {int})
-
 
 class Definition(unittest.TestCase):
     def parts(self, screens):
-        """p and q of the answer, once its form is seen to be right."""
-        given = common(told(screens))
-        self.assertEqual(len(given), 5, screens)
-        area, count, rest, p, q = given
-        self.assertEqual((count, rest), (0, 2), screens)
-        self.assertGreaterEqual(p, 1, screens)
-        self.assertGreaterEqual(q, 0, screens)
-        self.assertEqual(area, p * p + q * q, screens)
-        return p, q
+        return lattice_told(self, common(told(screens)))
 
     def test_all_pairs(self):
         # Areas are at most 64 * 64: each p + q, so each cell of an answer, is within 91.
@@ -115,7 +64,7 @@ class Definition(unittest.TestCase):
         p, q = self.parts(screens)
         # (p, q) and (-q, p) lie within p + q, so the square holds whole cells of the answer.
         radius = p + q
-        small, middle, great = sorted(screens, key=lambda screen: screen[0] ** 2 + screen[1] ** 2)
+        small, middle, great = sorted(screens, key=area)
         shared = {
             (x, y)
             for x, y in places(*great, radius)
@@ -183,66 +132,14 @@ class Edges(unittest.TestCase):
             self.assertEqual(common([1, 0, a, 8]), REFUSED)
 
 
-class Refusals(unittest.TestCase):
-    def test_other_numbers_of_numbers(self):
-        for many in range(0, 65):
-            z = ([1, 0] * 32)[:many]
-            expected = [1, 0, 2, 1, 0] if many in (4, 6) else REFUSED
-            self.assertEqual(common(z), expected, many)
-
-    def test_wrong_numbers_in_each_place(self):
-        for z in ([2, 1, 3, 0], [2, 1, 3, 0, 1, 1]):
-            self.assertNotEqual(common(z), REFUSED)
-            for k in range(len(z)):
-                wrong = [9, 64, 65, 256, 2 ** 32 + 1, 2 ** 63, 2 ** 64 - 8, HUGE]
-                for number in wrong + ([0] if k % 2 == 0 else []):
-                    changed = z[:k] + [number] + z[k + 1:]
-                    self.assertEqual(common(changed), REFUSED, changed)
-
-    def test_great_numbers_everywhere(self):
-        for many in (0, 1, 2, 3, 4, 5, 6, 7, 8, 64):
-            self.assertEqual(common([HUGE] * many), REFUSED)
-            self.assertEqual(common([0] * many), REFUSED)
+class Refusals(RefusesOtherScreens, unittest.TestCase):
+    def given(self, z):
+        return common(z)
 
 
-class ByItself(unittest.TestCase):
-    CALLS = (
-        [2, 1, 1, 2], [8, 0, 7, 3], [2, 1, 1, 2, 1, 1], [5, 6, 6, 5, 7, 2],
-        [], [1], [1, 0], [1, 0, 1], [1, 0, 1, 0, 1], [0, 1, 1, 0], [8, 1, 1, 0], [1, 0, 1, 0, 9, 0],
-        [HUGE] * 4, [1, 0] * 32,
-    )
-
-    def test_z_is_not_changed(self):
-        for numbers in self.CALLS:
-            z = list(numbers)
-            common(z)
-            self.assertEqual(z, numbers)
-
-    def test_z_is_not_changed_for_a_while(self):
-        for numbers in self.CALLS:
-            self.assertEqual(common(Watched(numbers)), common(list(numbers)))
-
-    def test_the_same_call_gives_the_same(self):
-        first = [common(list(numbers)) for numbers in self.CALLS]
-        again = [common(list(numbers)) for numbers in reversed(self.CALLS)]
-        self.assertEqual(first, again[::-1])
-
-    def test_the_given_list_may_be_changed(self):
-        for numbers in self.CALLS:
-            z = list(numbers)
-            given = common(z)
-            kept = list(given)
-            given[0] = 77
-            given.append(5)
-            self.assertEqual(common(z), kept)
-            self.assertEqual(z, numbers)
-
-    def test_nothing_is_printed_or_read(self):
-        out, err = io.StringIO(), io.StringIO()
-        with contextlib.redirect_stdout(out), contextlib.redirect_stderr(err):
-            for numbers in self.CALLS:
-                common(list(numbers))
-        self.assertEqual((out.getvalue(), err.getvalue()), ("", ""))
+class CommonByItself(ByItself, unittest.TestCase):
+    function = common
+    calls = [(z,) for z in SOME_Z]
 
 
 if __name__ == "__main__":

@@ -61,7 +61,9 @@ class Form(unittest.TestCase):
                     self.assertNotIsInstance(node.value, (float, bytes, complex))
 
     def test_interface(self):
-        self.assertEqual(str(inspect.signature(beats.common)), "(z)")
+        told = {"common": "(z)", "joint": "(z)"}
+        for name, arguments in told.items():
+            self.assertEqual(str(inspect.signature(vars(beats)[name])), arguments, name)
 
 
 if __name__ == "__main__":
