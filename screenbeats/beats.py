@@ -35,6 +35,10 @@ def area(u):
     return u[0] * u[0] + u[1] * u[1]
 
 
+def plus(u, v):
+    return (u[0] + v[0], u[1] + v[1])
+
+
 def minus(u, v):
     return (u[0] - v[0], u[1] - v[1])
 
@@ -55,14 +59,25 @@ def quotient(u, v):
     return (nearest(turned[0], n), nearest(turned[1], n))
 
 
-def greatest_divisor(u, v):
-    """A greatest common divisor of u and v."""
-    # It ends: the quotient is the nearest one, so the rest has at most half of v's area.
+def divisor_and_factor(u, v):
+    """(g, f): g a greatest common divisor of u and v, and f u less g a multiple of v."""
+    # Throughout, u is factor times the u of the beginning, and v is later times it, but for a multiple of
+    # the v of the beginning. It ends: the quotient is the nearest one, so the rest has at most half of v's area.
+    factor = (1, 0)
+    later = (0, 0)
     while v != (0, 0):
-        rest = minus(u, times(quotient(u, v), v))
+        whole = quotient(u, v)
+        rest = minus(u, times(whole, v))
+        rest_factor = minus(factor, times(whole, later))
         u = v
         v = rest
-    return u
+        factor = later
+        later = rest_factor
+    return (u, factor)
+
+
+def greatest_divisor(u, v):
+    return divisor_and_factor(u, v)[0]
 
 
 def upright(u):
@@ -79,6 +94,36 @@ def common_of(u, v):
 
 def joint_of(u, v):
     return upright(greatest_divisor(u, v))
+
+
+class Cell:
+    """The places of a lattice's cell, from (0, 0) on: just one of each class."""
+
+    def __init__(self, lattice):
+        # The lattice is all sums of multiples of these two places. Euclid's steps on their y keep it so, and end
+        # with the one as low as a place of the lattice can be above y = 0, the other at y = 0.
+        low = lattice
+        flat = (-lattice[1], lattice[0])
+        while flat[1] != 0:
+            rest = minus(low, times((low[1] // flat[1], 0), flat))
+            low = flat
+            flat = rest
+        self.wide = abs(flat[0])
+        self.high = low[1]
+        self.slant = low[0]
+
+    def spot(self, place):
+        """The one place of the cell that is of the place's class."""
+        # The places (slant, high) and (wide, 0) are on the lattice, so steps by them keep the class.
+        steps = place[1] // self.high
+        return ((place[0] - steps * self.slant) % self.wide, place[1] % self.high)
+
+    def class_number(self, place):
+        spot = self.spot(place)
+        return spot[1] * self.wide + spot[0]
+
+    def spot_of_class(self, number):
+        return (number % self.wide, number // self.wide)
 
 
 def told_lattice(lattice):
@@ -105,3 +150,36 @@ def joint(z):
     for screen in screens:
         lattice = joint_of(lattice, screen)
     return told_lattice(lattice)
+
+
+def meeting_place(first, second, u, v):
+    """A place of the class of u in the first lattice and of that of v in the second; None if there is none."""
+    found = divisor_and_factor(first, second)
+    divisor = found[0]
+    factor = found[1]
+    gap = minus(v, u)
+    steps = quotient(gap, divisor)
+    if times(steps, divisor) != gap:
+        return None
+    # By what the factor is, this lies first's multiple away from u, and second's multiple away from u + gap, so from v.
+    return plus(u, times(first, times(factor, steps)))
+
+
+def meet(c, d, z):
+    """Where class c of the first of two screens and d of the second meet.
+
+    It answers [number, 0, 2, x, y] of the common lattice's class, [-1, 0, 0], or [-4, 0, 0] where they don't meet.
+    """
+    screens = screens_of(z)
+    if len(screens) != 2:
+        return refusal(-1)
+    first = screens[0]
+    second = screens[1]
+    if c >= area(first) or d >= area(second):
+        return refusal(-1)
+    place = meeting_place(first, second, Cell(first).spot_of_class(c), Cell(second).spot_of_class(d))
+    if place is None:
+        return refusal(-4)
+    cell = Cell(common_of(first, second))
+    spot = cell.spot(place)
+    return answer(cell.class_number(spot), [spot[0], spot[1]])

@@ -1,7 +1,9 @@
 """What several tests share: the screens, a lattice by its definition, and what is asked of every call."""
 
 import contextlib
+import functools
 import io
+import math
 
 REFUSED = [-1, 0, 0]
 HUGE = 18446744073709551615
@@ -46,6 +48,25 @@ def class_key(a, b, x, y):
 
 def on_lattice(a, b, x, y):
     return class_key(a, b, x, y) == (0, 0)
+
+
+def cell(p, q):
+    """How wide and how high a lattice's cell is."""
+    high = math.gcd(p, q)
+    return (p * p + q * q) // high, high
+
+
+@functools.cache
+def class_numbers(a, b):
+    """The number of each class, by its key; each class is there just once."""
+    wide, high = cell(a, b)
+    numbers = {class_key(a, b, x, y): y * wide + x for y in range(high) for x in range(wide)}
+    assert len(numbers) == a * a + b * b == wide * high
+    return numbers
+
+
+def class_number(a, b, x, y):
+    return class_numbers(a, b)[class_key(a, b, x, y)]
 
 
 def lattice_told(case, given):

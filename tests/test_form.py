@@ -61,7 +61,7 @@ class Form(unittest.TestCase):
                     self.assertNotIsInstance(node.value, (float, bytes, complex))
 
     def test_interface(self):
-        told = {"common": "(z)", "joint": "(z)"}
+        told = {"common": "(z)", "joint": "(z)", "meet": "(c, d, z)"}
         for name, arguments in told.items():
             self.assertEqual(str(inspect.signature(vars(beats)[name])), arguments, name)
 
