@@ -7,6 +7,8 @@ the multiples of their least common multiple. The sums of places of two lattices
 the multiples of their greatest common divisor.
 """
 
+STEPS = ((-1, -1), (-1, 0), (-1, 1), (0, -1), (0, 0), (0, 1), (1, -1), (1, 0), (1, 1))
+
 
 def answer(number, told):
     return [number, 0, len(told)] + told
@@ -126,6 +128,48 @@ class Cell:
         return (number % self.wide, number // self.wide)
 
 
+def places_round(screen, place):
+    """Some places of the lattice round a place, by each way a nearest one among them."""
+    # The middle is at most half a step (the root of n) off in each direction, so by rows and columns at most a whole
+    # step. What is as near as that is at most a step off in each direction, so at most one from the middle.
+    middle = quotient(place, screen)
+    return [times(plus(middle, step), screen) for step in STEPS]
+
+
+def how_far(screen, way, place):
+    if way == 2:
+        n = area(screen)
+        rest = (screen[0] * place[1] - screen[1] * place[0]) % n
+        return min(rest, n - rest)
+    gaps = [minus(place, other) for other in places_round(screen, place)]
+    if way == 0:
+        return min([area(gap) for gap in gaps])
+    return min([abs(gap[0]) + abs(gap[1]) for gap in gaps])
+
+
+def ranks_of(screen, way):
+    """The rank of each class, by its number."""
+    cell = Cell(screen)
+    order = sorted([(how_far(screen, way, cell.spot_of_class(c)), c) for c in range(area(screen))])
+    ranks = [0] * len(order)
+    for rank in range(len(order)):
+        ranks[order[rank][1]] = rank
+    return ranks
+
+
+class Tint:
+    """A screen's dots of one tone, shifted by an offset."""
+
+    def __init__(self, screen, way, tone, offset):
+        self.cell = Cell(screen)
+        self.ranks = ranks_of(screen, way)
+        self.tone = tone
+        self.offset = offset
+
+    def has_dot(self, place):
+        return self.ranks[self.cell.class_number(plus(place, self.offset))] < self.tone
+
+
 def told_lattice(lattice):
     return answer(area(lattice), [lattice[0], lattice[1]])
 
@@ -183,3 +227,19 @@ def meet(c, d, z):
     cell = Cell(common_of(first, second))
     spot = cell.spot(place)
     return answer(cell.class_number(spot), [spot[0], spot[1]])
+
+
+def is_tint(a, b, way, tone):
+    return is_screen(a, b) and way <= 2 and tone <= area((a, b))
+
+
+def overlap(a, b, way, t, a2, b2, way2, t2, x, y):
+    """How many places of a common cell both tints have, the second with offsets x, y: [number, 0, 0], or [-1, 0, 0]."""
+    if not is_tint(a, b, way, t) or not is_tint(a2, b2, way2, t2):
+        return refusal(-1)
+    first = Tint((a, b), way, t, (0, 0))
+    second = Tint((a2, b2), way2, t2, (x, y))
+    cell = Cell(common_of((a, b), (a2, b2)))
+    places = [cell.spot_of_class(number) for number in range(cell.wide * cell.high)]
+    both = [place for place in places if first.has_dot(place) and second.has_dot(place)]
+    return answer(len(both), [])

@@ -61,7 +61,10 @@ class Form(unittest.TestCase):
                     self.assertNotIsInstance(node.value, (float, bytes, complex))
 
     def test_interface(self):
-        told = {"common": "(z)", "joint": "(z)", "meet": "(c, d, z)"}
+        told = {
+            "common": "(z)", "joint": "(z)", "meet": "(c, d, z)",
+            "overlap": "(a, b, way, t, a2, b2, way2, t2, x, y)",
+        }
         for name, arguments in told.items():
             self.assertEqual(str(inspect.signature(vars(beats)[name])), arguments, name)
 
