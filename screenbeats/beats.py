@@ -170,6 +170,53 @@ class Tint:
         return self.ranks[self.cell.class_number(plus(place, self.offset))] < self.tone
 
 
+def harmonics(h):
+    """All (i, j) but (0, 0) with i i + j j at most h, in their order."""
+    found = []
+    for i in range(-h, h + 1):
+        for j in range(-h, h + 1):
+            if 1 <= area((i, j)) <= h:
+                found.append((area((i, j)), i, j))
+    return [(row[1], row[2]) for row in sorted(found)]
+
+
+def product_of_areas(screens):
+    product = 1
+    for screen in screens:
+        product = product * area(screen)
+    return product
+
+
+def waves_of(screen, h, lower):
+    """Each harmonic with its wave, a pair of upper numbers that both stand over lower, a multiple of the area."""
+    scale = (lower // area(screen), 0)
+    return [(harmonic, times(times(screen, harmonic), scale)) for harmonic in harmonics(h)]
+
+
+def beats_of(screens, h):
+    """All beats in their order: each the list of its i, j, and its two upper numbers over the areas' product."""
+    lower = product_of_areas(screens)
+    beats = [([], (0, 0))]
+    for screen in screens:
+        waves = waves_of(screen, h, lower)
+        longer = []
+        for beat in beats:
+            for wave in waves:
+                longer.append((beat[0] + list(wave[0]), plus(beat[1], wave[1])))
+        beats = longer
+    return beats
+
+
+def least_terms(upper, lower):
+    # Of lattices along the rows alone, the joint one has the numbers' greatest common divisor.
+    divisor = joint_of((upper, 0), (lower, 0))[0]
+    return [upper // divisor, lower // divisor]
+
+
+def is_order(h):
+    return 1 <= h <= 8
+
+
 def told_lattice(lattice):
     return answer(area(lattice), [lattice[0], lattice[1]])
 
@@ -243,3 +290,16 @@ def overlap(a, b, way, t, a2, b2, way2, t2, x, y):
     places = [cell.spot_of_class(number) for number in range(cell.wide * cell.high)]
     both = [place for place in places if first.has_dot(place) and second.has_dot(place)]
     return answer(len(both), [])
+
+
+def slowest(h, z):
+    """The slowest beat of order h: [1, 0, 6 or 8, upper, lower, i, j of each screen], or [-1, 0, 0]."""
+    screens = screens_of(z)
+    if len(screens) == 0 or not is_order(h):
+        return refusal(-1)
+    # There is always one: unlike waves of one screen, with the same of the others, can't all give 0.
+    moving = [beat for beat in beats_of(screens, h) if beat[1] != (0, 0)]
+    # Of several as slow, min takes the first.
+    beat = min(moving, key=lambda row: area(row[1]))
+    lower = product_of_areas(screens)
+    return answer(1, least_terms(area(beat[1]), lower * lower) + beat[0])

@@ -3,7 +3,9 @@
 import contextlib
 import functools
 import io
+import itertools
 import math
+from fractions import Fraction
 
 REFUSED = [-1, 0, 0]
 HUGE = 18446744073709551615
@@ -67,6 +69,35 @@ def class_numbers(a, b):
 
 def class_number(a, b, x, y):
     return class_numbers(a, b)[class_key(a, b, x, y)]
+
+
+def harmonics(h):
+    """The harmonics of order h, in their order."""
+    square = range(-h, h + 1)
+    found = [(i, j) for i in square for j in square if (i, j) != (0, 0) and i * i + j * j <= h]
+    return sorted(found, key=lambda harmonic: (area(harmonic), harmonic))
+
+
+@functools.cache
+def wave(screen, harmonic):
+    (a, b), (i, j) = screen, harmonic
+    return Fraction(a * i - b * j, a * a + b * b), Fraction(b * i + a * j, a * a + b * b)
+
+
+def beat_square(screens, row):
+    """The square of the beat of a row of harmonics, one of each screen."""
+    waves = [wave(screen, harmonic) for screen, harmonic in zip(screens, row)]
+    return sum(x for x, y in waves) ** 2 + sum(y for x, y in waves) ** 2
+
+
+def all_beats(screens, h):
+    """Each row of harmonics of order h with its square, in the order of rows."""
+    return [(beat_square(screens, row), row) for row in itertools.product(harmonics(h), repeat=len(screens))]
+
+
+def of_order(beats, h):
+    """Of the beats of a greater order those of order h, in the same order."""
+    return [(square, row) for square, row in beats if all(i * i + j * j <= h for i, j in row)]
 
 
 def lattice_told(case, given):

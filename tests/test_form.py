@@ -63,7 +63,7 @@ class Form(unittest.TestCase):
     def test_interface(self):
         told = {
             "common": "(z)", "joint": "(z)", "meet": "(c, d, z)",
-            "overlap": "(a, b, way, t, a2, b2, way2, t2, x, y)",
+            "overlap": "(a, b, way, t, a2, b2, way2, t2, x, y)", "slowest": "(h, z)",
         }
         for name, arguments in told.items():
             self.assertEqual(str(inspect.signature(vars(beats)[name])), arguments, name)
