@@ -1,1 +1,1 @@
-"""Where turned screens of dots come back together."""
+"""Where turned screens of dots come back together, which dots meet, and the beats between them."""

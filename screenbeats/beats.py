@@ -194,7 +194,7 @@ def waves_of(screen, h, lower):
 
 
 def beats_of(screens, h):
-    """All beats in their order: each the list of its i, j, and its two upper numbers over the areas' product."""
+    """All beats in their order: each the list of its i, j, and its two upper numbers, over the areas' product."""
     lower = product_of_areas(screens)
     beats = [([], (0, 0))]
     for screen in screens:
@@ -252,7 +252,7 @@ def meeting_place(first, second, u, v):
     steps = quotient(gap, divisor)
     if times(steps, divisor) != gap:
         return None
-    # By what the factor is, this lies first's multiple away from u, and second's multiple away from u + gap, so from v.
+    # First times factor is the divisor but for a multiple of second, so first times factor times steps is the gap so.
     return plus(u, times(first, times(factor, steps)))
 
 
@@ -303,3 +303,14 @@ def slowest(h, z):
     beat = min(moving, key=lambda row: area(row[1]))
     lower = product_of_areas(screens)
     return answer(1, least_terms(area(beat[1]), lower * lower) + beat[0])
+
+
+def lock(h, z):
+    """The first beat of order h that is 0: [1, 0, 4 or 6, i, j of each screen], [-1, 0, 0], or [-4, 0, 0] for none."""
+    screens = screens_of(z)
+    if len(screens) == 0 or not is_order(h):
+        return refusal(-1)
+    still = [beat for beat in beats_of(screens, h) if beat[1] == (0, 0)]
+    if len(still) == 0:
+        return refusal(-4)
+    return answer(1, still[0][0])

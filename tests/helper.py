@@ -5,10 +5,13 @@ import functools
 import io
 import itertools
 import math
+import time
 from fractions import Fraction
 
 REFUSED = [-1, 0, 0]
+NONE = [-4, 0, 0]
 HUGE = 18446744073709551615
+ORDERS = range(1, 9)
 SCREENS = [(a, b) for a in range(1, 9) for b in range(0, 9) if a * a + b * b <= 64]
 
 
@@ -170,6 +173,64 @@ class RefusesOtherScreens:
         for many in (0, 1, 2, 3, 4, 5, 6, 7, 8, 64):
             self.refused([HUGE] * many)
             self.refused([0] * many)
+
+
+class BeatsByDefinition:
+    """A call on h and z. A test case has `function`, and `expected(beats)`, the answer by the definition."""
+
+    def check(self, screens):
+        beats = all_beats(screens, 8)
+        for h in ORDERS:
+            given = type(self).function(h, told(screens))
+            self.assertEqual(given, self.expected(of_order(beats, h)), (h, screens))
+
+    def test_many_pairs(self):
+        pairs = list(itertools.product(SCREENS, repeat=2))
+        for screens in pairs[::4]:
+            self.check(screens)
+
+    def test_all_pairs_of_small_screens(self):
+        small = [screen for screen in SCREENS if area(screen) <= 10]
+        for screens in itertools.product(small, repeat=2):
+            self.check(screens)
+
+    def test_some_triples(self):
+        triples = list(itertools.product(SCREENS, repeat=3))
+        for screens in triples[::4999]:
+            self.check(screens)
+
+    def test_triples_of_low_orders(self):
+        triples = list(itertools.product(SCREENS, repeat=3))
+        small = [screen for screen in SCREENS if area(screen) <= 8]
+        for screens in triples[::499] + list(itertools.product(small, repeat=3)):
+            for h in (1, 2):
+                given = type(self).function(h, told(screens))
+                self.assertEqual(given, self.expected(all_beats(screens, h)), (h, screens))
+
+    def test_least_and_greatest_area(self):
+        for screens in (
+            [(1, 0), (1, 0)], [(1, 0), (8, 0)], [(8, 0), (1, 0)], [(8, 0), (8, 0)],
+            [(1, 0), (1, 0), (1, 0)], [(8, 0), (8, 0), (8, 0)], [(1, 0), (8, 0), (1, 1)],
+        ):
+            self.check(screens)
+
+    def test_orders_at_which_no_harmonic_comes(self):
+        for z in ([7, 3, 3, 7], [4, 0, 8, 0], [2, 1, 1, 2], [1, 1, 2, 0], [2, 1, 1, 2, 1, 1], [8, 0, 7, 0, 5, 5]):
+            for h, same in ((3, 2), (6, 5), (7, 5)):
+                self.assertEqual(type(self).function(h, z), type(self).function(same, z))
+
+    def test_orders_that_are_refused(self):
+        for z in ([2, 1, 3, 0], [1, 0, 1, 0], [2, 1, 3, 0, 1, 1]):
+            for h in (0, 9, 10, 64, 255, 2 ** 32 + 1, 2 ** 63, 2 ** 64 - 8, HUGE):
+                self.assertEqual(type(self).function(h, z), REFUSED)
+            for h in ORDERS:
+                self.assertNotEqual(type(self).function(h, z), REFUSED)
+
+    def test_three_screens_of_order_8_within_seconds(self):
+        for z in ([7, 3, 3, 7, 8, 0], [5, 6, 6, 5, 7, 2]):
+            begun = time.perf_counter()
+            type(self).function(8, z)
+            self.assertLess(time.perf_counter() - begun, 3)
 
 
 def copied(call, kind):

@@ -16,9 +16,13 @@ isinstance ord repr any all divmod Exception ValueError TypeError KeyError Index
 ArithmeticError OverflowError RuntimeError NotImplementedError AttributeError StopIteration""".split()
 WORDS = """type typing typing_extensions enum Enum IntEnum StrEnum Flag IntFlag Generic Protocol ABC ABCMeta namedtuple
 NamedTuple TypedDict TYPE_CHECKING abstractmethod""".split()
+METHODS = """append clear copy count endswith extend find get index insert isalnum isalpha isdigit islower isspace
+isupper items join keys ljust lower lstrip partition pop remove replace reverse rfind rjust rpartition rsplit rstrip setdefault
+split splitlines startswith strip update upper values zfill bit_length""".split()
 BANNED = (
-    ast.With, ast.Match, ast.Delete, ast.Global, ast.Nonlocal, ast.Assert, ast.Yield, ast.YieldFrom, ast.AsyncFunctionDef,
-    ast.Await, ast.Div, ast.SetComp, ast.DictComp, ast.GeneratorExp, ast.NamedExpr, ast.Starred, ast.Set, ast.AnnAssign,
+    ast.With, ast.Match, ast.Delete, ast.Global, ast.Nonlocal, ast.Assert, ast.Yield, ast.YieldFrom,
+    ast.AsyncFunctionDef, ast.AsyncFor, ast.AsyncWith, ast.Await, ast.Div, ast.SetComp, ast.DictComp, ast.GeneratorExp,
+    ast.NamedExpr, ast.Starred, ast.Set, ast.AnnAssign,
 )
 
 
@@ -60,10 +64,43 @@ class Form(unittest.TestCase):
                 if isinstance(node, ast.Constant):
                     self.assertNotIsInstance(node.value, (float, bytes, complex))
 
+    def test_tops_of_files(self):
+        for file in FILES:
+            top = ast.parse(file.read_text()).body
+            self.assertIsInstance(top[0], ast.Expr)
+            names = []
+            for node in top[1:]:
+                self.assertIsInstance(node, (ast.FunctionDef, ast.ClassDef, ast.Assign))
+                names.append(node.targets[0].id if isinstance(node, ast.Assign) else node.name)
+            self.assertEqual(len(names), len(set(names)))
+
+    def test_plain_forms(self):
+        for file in FILES:
+            nodes = list(ast.walk(ast.parse(file.read_text())))
+            own = [node.name for node in nodes if isinstance(node, ast.FunctionDef)]
+            for node in nodes:
+                if isinstance(node, ast.Assign):
+                    self.assertEqual(len(node.targets), 1)
+                    self.assertNotIsInstance(node.targets[0], (ast.Tuple, ast.List))
+                if isinstance(node, (ast.For, ast.While)):
+                    self.assertEqual(node.orelse, [])
+                if isinstance(node, ast.ListComp):
+                    self.assertEqual(len(node.generators), 1)
+                    self.assertLessEqual(len(node.generators[0].ifs), 1)
+                if isinstance(node, (ast.FunctionDef, ast.ClassDef)):
+                    self.assertEqual(node.decorator_list, [])
+                    self.assertTrue(node.name == "__init__" or not node.name.startswith("_"))
+                if isinstance(node, ast.Name):
+                    self.assertFalse(node.id.startswith("_"))
+                if isinstance(node, ast.Call) and isinstance(node.func, ast.Attribute):
+                    self.assertIn(node.func.attr, METHODS + own)
+                if isinstance(node, ast.Compare) and any(isinstance(op, (ast.Is, ast.IsNot)) for op in node.ops):
+                    self.assertIsInstance(node.comparators[0], ast.Constant)
+
     def test_interface(self):
         told = {
             "common": "(z)", "joint": "(z)", "meet": "(c, d, z)",
-            "overlap": "(a, b, way, t, a2, b2, way2, t2, x, y)", "slowest": "(h, z)",
+            "overlap": "(a, b, way, t, a2, b2, way2, t2, x, y)", "slowest": "(h, z)", "lock": "(h, z)",
         }
         for name, arguments in told.items():
             self.assertEqual(str(inspect.signature(vars(beats)[name])), arguments, name)

@@ -4,10 +4,9 @@ import itertools
 import unittest
 
 from screenbeats.beats import common, joint, meet
-from tests.helper import HUGE, REFUSED, SCREENS, SOME_Z, ByItself, RefusesOtherScreens
+from tests.helper import HUGE, NONE, REFUSED, SCREENS, SOME_Z, ByItself, RefusesOtherScreens
 from tests.helper import area, cell, class_number, told
 
-APART = [-4, 0, 0]
 GREAT = (
     ((7, 3), (3, 7)), ((5, 6), (6, 5)), ((8, 0), (7, 0)), ((7, 0), (8, 0)), ((8, 0), (6, 5)), ((2, 7), (7, 2)),
     ((8, 0), (8, 0)), ((6, 4), (4, 6)), ((5, 5), (7, 1)), ((6, 3), (3, 6)), ((4, 4), (8, 0)), ((1, 7), (7, 1)),
@@ -38,10 +37,10 @@ class Ordinary(unittest.TestCase):
         self.check(0, 0, [2, 0, 4, 0], [0, 0, 2, 0, 0])
         self.check(1, 1, [2, 0, 4, 0], [1, 0, 2, 1, 0])
         self.check(1, 3, [2, 0, 4, 0], [3, 0, 2, 3, 0])
-        self.check(1, 2, [2, 0, 4, 0], APART)
+        self.check(1, 2, [2, 0, 4, 0], NONE)
         self.check(3, 15, [2, 0, 4, 0], [15, 0, 2, 3, 3])
-        self.check(2, 15, [2, 0, 4, 0], APART)
-        self.check(0, 1, [1, 1, 3, 1], APART)
+        self.check(2, 15, [2, 0, 4, 0], NONE)
+        self.check(0, 1, [1, 1, 3, 1], NONE)
         self.check(1, 1, [1, 1, 3, 1], [1, 0, 2, 1, 0])
 
     def test_screen_with_itself(self):
@@ -50,7 +49,7 @@ class Ordinary(unittest.TestCase):
             for c in range(area((a, b))):
                 self.check(c, c, [a, b, a, b], [c, 0, 2, c % wide, c // wide])
             for c, d in itertools.permutations(range(min(area((a, b)), 12)), 2):
-                self.check(c, d, [a, b, a, b], APART)
+                self.check(c, d, [a, b, a, b], NONE)
 
     def test_cells_of_several_rows(self):
         # (2, 2) has (4, 0) and (2, 2): a cell 4 wide, 2 high.
@@ -58,7 +57,7 @@ class Ordinary(unittest.TestCase):
         self.check(0, 7, [1, 0, 2, 2], [7, 0, 2, 3, 1])
         self.check(7, 0, [2, 2, 1, 0], [7, 0, 2, 3, 1])
         # (4, 2) has (10, 0) and (-2, 4), so (8, 4) and (4, 2): a cell 10 wide, 2 high.
-        self.check(2, 13, [2, 1, 4, 2], APART)
+        self.check(2, 13, [2, 1, 4, 2], NONE)
         self.check(1, 13, [2, 1, 4, 2], [13, 0, 2, 3, 1])
 
 
@@ -75,7 +74,7 @@ class Definition(unittest.TestCase):
         z = told([first, second])
         for c in range(area(first)):
             for d in range(area(second)):
-                self.assertEqual(meet(c, d, z), found.get((c, d), APART), (c, d, z))
+                self.assertEqual(meet(c, d, z), found.get((c, d), NONE), (c, d, z))
 
     def test_all_pairs_of_smaller_screens(self):
         smaller = [screen for screen in SCREENS if area(screen) <= 29]
@@ -102,7 +101,7 @@ class WithJoint(unittest.TestCase):
             of_c = class_number(*lattice, c % wide, c // wide)
             for d in range(area(second)):
                 of_d = class_number(*lattice, d % second_wide, d // second_wide)
-                self.assertEqual(meet(c, d, z) != APART, of_c == of_d, (c, d, z))
+                self.assertEqual(meet(c, d, z) != NONE, of_c == of_d, (c, d, z))
 
     def test_all_pairs_of_smaller_screens(self):
         smaller = [screen for screen in SCREENS if area(screen) <= 20]
@@ -119,6 +118,16 @@ class WithJoint(unittest.TestCase):
             z = told([first, second])
             numbers = [meet(c, d, z)[0] for c in range(area(first)) for d in range(area(second))]
             self.assertEqual(sorted(numbers), list(range(area(first) * area(second))), z)
+
+
+class WithCommon(unittest.TestCase):
+    def test_places_of_both_are_one_class_of_the_common_lattice(self):
+        for first, second in (((2, 0), (3, 0)), ((2, 1), (4, 2)), ((2, 2), (3, 1)), ((3, 0), (3, 3)), ((1, 2), (2, 1))):
+            lattice = lattice_of(common, first, second)
+            z = told([first, second])
+            for x, y in itertools.product(range(-25, 26), repeat=2):
+                c, d = class_number(*first, x, y), class_number(*second, x, y)
+                self.assertEqual(meet(c, d, z)[0], class_number(*lattice, x, y), (x, y, z))
 
 
 class Edges(unittest.TestCase):
@@ -146,7 +155,7 @@ class Edges(unittest.TestCase):
         self.assertEqual(meet(4, 64, [2, 1, 8, 0]), REFUSED)
 
     def test_refused_ahead_of_apart(self):
-        self.assertEqual(meet(0, 1, [2, 0, 2, 0]), APART)
+        self.assertEqual(meet(0, 1, [2, 0, 2, 0]), NONE)
         for c, d in ((0, 5), (4, 1), (1, 4), (5, 0), (4, 5), (HUGE, 1), (1, HUGE)):
             self.assertEqual(meet(c, d, [2, 0, 2, 0]), REFUSED)
 

@@ -2,14 +2,11 @@
 
 import itertools
 import math
-import time
 import unittest
 
 from screenbeats.beats import slowest
-from tests.helper import HUGE, REFUSED, SCREENS, SOME_Z, ByItself, RefusesOtherScreens
-from tests.helper import all_beats, area, beat_square, harmonics, of_order, told
-
-ORDERS = range(1, 9)
+from tests.helper import HUGE, ORDERS, SCREENS, SOME_Z, BeatsByDefinition, ByItself, RefusesOtherScreens
+from tests.helper import all_beats, area, beat_square, harmonics, told
 
 
 def first_slowest(beats):
@@ -58,11 +55,11 @@ class Ordinary(unittest.TestCase):
                 self.check(h, z, first_slowest(all_beats(screens, h)))
 
 
-class Definition(unittest.TestCase):
-    def check(self, screens):
-        beats = all_beats(screens, 8)
-        for h in ORDERS:
-            self.assertEqual(slowest(h, told(screens)), first_slowest(of_order(beats, h)), (h, screens))
+class Definition(BeatsByDefinition, unittest.TestCase):
+    function = slowest
+
+    def expected(self, beats):
+        return first_slowest(beats)
 
     def test_order_of_harmonics(self):
         # The tests' own order against what the document says.
@@ -70,27 +67,6 @@ class Definition(unittest.TestCase):
         self.assertEqual(harmonics(2)[4:], [(-1, -1), (-1, 1), (1, -1), (1, 1)])
         self.assertEqual(harmonics(4)[8:], [(-2, 0), (0, -2), (0, 2), (2, 0)])
         self.assertEqual([len(harmonics(h)) for h in ORDERS], [4, 8, 8, 12, 20, 20, 20, 24])
-
-    def test_many_pairs(self):
-        pairs = list(itertools.product(SCREENS, repeat=2))
-        for screens in pairs[::4]:
-            self.check(screens)
-
-    def test_all_pairs_of_small_screens(self):
-        small = [screen for screen in SCREENS if area(screen) <= 10]
-        for screens in itertools.product(small, repeat=2):
-            self.check(screens)
-
-    def test_some_triples(self):
-        triples = list(itertools.product(SCREENS, repeat=3))
-        for screens in triples[::4999]:
-            self.check(screens)
-
-    def test_triples_of_low_orders(self):
-        triples = list(itertools.product(SCREENS, repeat=3))
-        for screens in triples[::499]:
-            for h in (1, 2):
-                self.assertEqual(slowest(h, told(screens)), first_slowest(all_beats(screens, h)), (h, screens))
 
 
 class Form(unittest.TestCase):
@@ -140,20 +116,6 @@ class AnotherOrder(unittest.TestCase):
 
 
 class Edges(unittest.TestCase):
-    def test_orders_at_which_no_harmonic_comes(self):
-        for z in ([7, 3, 3, 7], [8, 0, 7, 0], [1, 0, 8, 0], [5, 6, 6, 5], [2, 1, 1, 2, 1, 1], [8, 0, 7, 0, 5, 5]):
-            for h, same in ((3, 2), (6, 5), (7, 5)):
-                self.assertEqual(slowest(h, z), slowest(same, z))
-
-    def test_least_and_greatest_area(self):
-        for screens in (
-            [(1, 0), (1, 0)], [(1, 0), (8, 0)], [(8, 0), (1, 0)], [(8, 0), (8, 0)],
-            [(1, 0), (1, 0), (1, 0)], [(8, 0), (8, 0), (8, 0)], [(1, 0), (8, 0), (1, 1)],
-        ):
-            beats = all_beats(screens, 8)
-            for h in ORDERS:
-                self.assertEqual(slowest(h, told(screens)), first_slowest(of_order(beats, h)))
-
     def test_greater_orders_are_no_faster(self):
         for screens in list(itertools.product(SCREENS, repeat=2))[::7]:
             squares = [slowest(h, told(screens))[3:5] for h in ORDERS]
@@ -165,25 +127,10 @@ class Refusals(RefusesOtherScreens, unittest.TestCase):
     def given(self, z):
         return slowest(2, z)
 
-    def test_orders(self):
-        for z in ([2, 1, 3, 0], [1, 0, 1, 0], [2, 1, 3, 0, 1, 1]):
-            for h in (0, 9, 10, 64, 255, 2 ** 32 + 1, 2 ** 63, 2 ** 64 - 8, HUGE):
-                self.assertEqual(slowest(h, z), REFUSED)
-            for h in ORDERS:
-                self.assertEqual(slowest(h, z)[0], 1)
-
 
 class SlowestByItself(ByItself, unittest.TestCase):
     function = slowest
     calls = [(h, z) for z in SOME_Z for h in (0, 1, 2, 5, 9, HUGE)]
-
-
-class WithinSeconds(unittest.TestCase):
-    def test_three_screens_of_order_8(self):
-        for z in ([7, 3, 3, 7, 8, 0], [5, 6, 6, 5, 7, 2]):
-            begun = time.perf_counter()
-            slowest(8, z)
-            self.assertLess(time.perf_counter() - begun, 3)
 
 
 if __name__ == "__main__":
